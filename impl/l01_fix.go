@@ -26,6 +26,8 @@ func isRate(rate int64) bool { return within(rate, 0, MaxRate) }
 
 func isWindow(n int64) bool { return within(n, 0, MaxWindow) }
 
+func isSegment(n int64) bool { return within(n, 1, MaxSegment) }
+
 func Add(a int64, b int64) int64 {
 	if b > 0 && a > math.MaxInt64-b {
 		return math.MaxInt64
