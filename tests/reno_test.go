@@ -87,12 +87,15 @@ func wantSent(c impl.Cc, n int64) (impl.Cc, bool) {
 }
 
 // stepsCost is what must come through for so many steps, the first one at that
-// window: each costs the Window from before it, the next one 1500 more.
+// window: each costs the Window from before it, the next one 1500 more, but none
+// of them more than 1000000000.
 func stepsCost(window int64, steps int64) *big.Int {
-	pairs := new(big.Int).Mul(big.NewInt(steps), big.NewInt(steps-1))
+	below := min(steps, (1000000000-window+1499)/1500)
+	pairs := new(big.Int).Mul(big.NewInt(below), big.NewInt(below-1))
 	pairs.Rsh(pairs, 1)
-	cost := new(big.Int).Mul(big.NewInt(steps), big.NewInt(window))
-	return cost.Add(cost, pairs.Mul(pairs, big.NewInt(1500)))
+	cost := new(big.Int).Mul(big.NewInt(below), big.NewInt(window))
+	cost.Add(cost, pairs.Mul(pairs, big.NewInt(1500)))
+	return cost.Add(cost, new(big.Int).Mul(big.NewInt(steps-below), big.NewInt(1000000000)))
 }
 
 // stepsOf looks for the last step that is paid for: it takes none of them.
@@ -121,7 +124,7 @@ func wantRenoAck(c impl.Cc, n int64) impl.Cc {
 	}
 	through := sumByWords(c.Acked, n)
 	steps := stepsOf(c.Window, through)
-	c.Acked = atMostBig(through.Sub(through, stepsCost(c.Window, steps)), 1000000000)
+	c.Acked = through.Sub(through, stepsCost(c.Window, steps)).Int64()
 	c.Window = atMostBig(sumByWords(c.Window, 1500*steps), 1000000000)
 	return c
 }
@@ -287,22 +290,22 @@ func checkAcking(t *testing.T, c impl.Cc, n int64) impl.Cc {
 }
 
 // checkStepsPaid pays the steps one by one: nothing that came through is lost
-// or counted twice. A Window at its bound does not tell any more how many they were.
+// or counted twice, and no step is taken from a Window that is out of its bounds.
 func checkStepsPaid(t *testing.T, c impl.Cc, n int64, next impl.Cc) {
 	t.Helper()
 	if next.Slow != c.Slow {
 		t.Fatalf("RenoAck(%+v, %d) = %+v", c, n, next)
 	}
-	if next.Window == 1000000000 {
-		return
-	}
 	left := c.Acked + n
 	window := c.Window
-	for window < next.Window {
+	for left >= window {
 		left -= window
 		window += 1500
+		if window > 1000000000 {
+			window = 1000000000
+		}
 	}
-	if window != next.Window || left != next.Acked || left < 0 || left >= window {
+	if window != next.Window || left != next.Acked || next.Acked >= next.Window {
 		t.Fatalf("RenoAck(%+v, %d) = %+v", c, n, next)
 	}
 }
@@ -662,20 +665,21 @@ func TestStepsAtMaxWindow(t *testing.T) {
 	}
 }
 
-// Acked and n together are twice MaxWindow: the bounds are those of the answer,
-// not of what is added up on the way to it.
+// Acked and n together are twice MaxWindow: none of it is cut off, and each step
+// costs a Window that is within its bounds.
 func TestGreatestAcks(t *testing.T) {
 	const most = 1000000000
 	for _, c := range []struct{ window, wantWindow, wantAcked int64 }{
 		// 1631 steps from 3000 on cost 3000 times 1631, and 1500 times 1329265.
 		{3000, 2449500, 1209500},
-		{most, most, most},
-		{most - 1, most, most},
-		{most - 749, most, most},
-		// A step leads just to what is left, above the bound as both are.
-		{most - 750, most, 0},
-		{most - 751, most, 2},
-		{most - 1499, most, 1498},
+		{most, most, 0},
+		{most - 1, most, 1},
+		// With a Window above its bound 750 is where a second step would begin.
+		{most - 749, most, 749},
+		{most - 750, most, 750},
+		{most - 751, most, 751},
+		{most - 1000, most, 1000},
+		{most - 1499, most, 1499},
 		{most - 1500, most, 1500},
 		{most - 1501, most, 1502},
 		{most - 3000, most, 4500},
@@ -685,8 +689,28 @@ func TestGreatestAcks(t *testing.T) {
 		checkRenoAck(t, from, most, ccOf(c.wantWindow, 3000, 0, c.wantAcked, false))
 		checkAcking(t, from, most)
 	}
-	// What is left of them is counted with the next.
+	// An Acked of a whole Window is right when it is handed in, and a step with the next byte.
 	checkRenoAck(t, ccOf(most, 3000, 0, most, false), 1, ccOf(most, 3000, 0, 1, false))
+}
+
+// Each Window of the last two steps, with what is a byte short of the second
+// step, just enough for it, and the most there is.
+func TestEachWindowBelowMaxWindow(t *testing.T) {
+	const most = 1000000000
+	for window := int64(most - 3100); window <= most; window++ {
+		second := min(window+1500, most)
+		for _, acked := range []int64{window - 1, window, most} {
+			c := ccOf(window, 3000, 5, acked, false)
+			for _, through := range []int64{window + second - 1, window + second, window + second + 1, acked + most} {
+				if n := through - acked; n >= 1 && n <= most {
+					checkAcking(t, c, n)
+				}
+			}
+		}
+		short := ccOf(window, 3000, 5, window, false)
+		checkRenoAck(t, short, second-1, ccOf(second, 3000, 0, second-1, false))
+		checkRenoAck(t, short, second, ccOf(min(second+1500, most), 3000, 0, 0, false))
+	}
 }
 
 func TestRenoAckRefuses(t *testing.T) {
@@ -806,12 +830,14 @@ func TestSlowRise(t *testing.T) {
 	}
 }
 
-// In two pieces as much comes through as at once, while the bound is far.
+// In two pieces as much comes through as at once, near the upper bound too.
 func TestAcksInPieces(t *testing.T) {
 	state := uint64(101)
 	for range 3000 {
-		c := ccOf(3000+mixed(&state)%900000000, 3000, mixed(&state)%1000000000, mixed(&state)%1000000000, false)
-		a, b := 1+mixed(&state)%500000000, 1+mixed(&state)%500000000
+		c := ccOf(anyWindow(&state, 3000), 3000, anyWindow(&state, 0), anyWindow(&state, 0), false)
+		whole := anyWindow(&state, 2)
+		a := 1 + mixed(&state)%(whole-1)
+		b := whole - a
 		if two, one := checkAcking(t, checkAcking(t, c, a), b), checkAcking(t, c, a+b); two != one {
 			t.Fatal(c, a, b, two, one)
 		}
